@@ -1,0 +1,1 @@
+"""Lookscan: fill orders of grids, compared for every size."""

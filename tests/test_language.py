@@ -1,0 +1,126 @@
+"""Rules of LANGUAGE.md that a test can see easily, for each file of the package."""
+
+import ast
+import builtins
+import pathlib
+import re
+import unittest
+
+PACKAGE = pathlib.Path(__file__).resolve().parent.parent / "lookscan"
+FILES = sorted(PACKAGE.rglob("*.py"))
+TREES = {path: ast.parse(path.read_text()) for path in FILES}
+BUILTINS = """len range enumerate zip min max sum abs sorted reversed int str bool bytes list tuple dict set frozenset
+    isinstance ord repr any all divmod Exception ValueError TypeError KeyError IndexError LookupError
+    ZeroDivisionError ArithmeticError OverflowError RuntimeError NotImplementedError AttributeError StopIteration
+    NotImplemented iter next property staticmethod classmethod super object""".split()
+BARRED = """register mro elements open input law version_info with_traceback add_note attrgetter breakpoint builtins
+    compile copyright credits delattr dir eval exec exit gc getattr globals hasattr help id importlib license locals
+    methodcaller os quit setattr type vars sys format format_map""".split()
+BARRED_WORDS = """type typing typing_extensions enum Enum IntEnum StrEnum Flag IntFlag Generic Protocol ABC ABCMeta
+    namedtuple NamedTuple TypedDict TYPE_CHECKING abstractmethod""".split()
+STATEMENTS = (ast.Global, ast.AsyncFunctionDef, ast.AsyncFor, ast.AsyncWith, ast.Await, ast.Import)
+
+
+def names_bound(tree):
+    """All names that a file gives to functions, classes, parameters, variables and attributes."""
+    for node in ast.walk(tree):
+        if isinstance(node, (ast.FunctionDef, ast.ClassDef)):
+            yield node.name
+        elif isinstance(node, ast.arg):
+            yield node.arg
+        elif isinstance(node, ast.Name) and isinstance(node.ctx, ast.Store):
+            yield node.id
+        elif isinstance(node, ast.Attribute):
+            yield node.attr
+
+
+class LanguageTest(unittest.TestCase):
+    def test_files(self):
+        self.assertIn("errors.py", [path.name for path in FILES])
+        for path in PACKAGE.rglob("*"):
+            if "__pycache__" not in path.parts:
+                self.assertRegex(path.name, r"^[a-z0-9_]+\.py$")
+
+    def test_sizes_and_characters(self):
+        for path in FILES:
+            text = path.read_text()
+            lines = text.split("\n")
+            self.assertLessEqual(len(lines) - 1, 399, path)
+            self.assertLessEqual(max(len(line) for line in lines), 120, path)
+            self.assertRegex(text, r"\A[ -~\n]*\Z", str(path))
+            for node in ast.walk(TREES[path]):
+                if isinstance(node, ast.FunctionDef):
+                    self.assertLessEqual(node.end_lineno - node.lineno + 1, 40, node.name)
+
+    def test_words(self):
+        for path in FILES:
+            text = path.read_text()
+            for word in BARRED_WORDS:
+                self.assertIsNone(re.search(rf"\b{word}\b", text), (path, word))
+            for word in ["dataclass", "overload", "contextmanager"]:
+                self.assertNotIn(word, text)
+
+    def test_names(self):
+        for path, tree in TREES.items():
+            for name in names_bound(tree):
+                self.assertNotIn(name, BARRED, path)
+                if not (name.startswith("__") and name.endswith("__")):
+                    self.assertFalse(name.startswith("_"), (path, name))
+
+    def test_no_name_of_a_builtin_or_an_import_is_bound_again(self):
+        for path, tree in TREES.items():
+            imported = [alias.name for node in tree.body if isinstance(node, ast.ImportFrom) for alias in node.names]
+            for node in ast.walk(tree):
+                names = [node.name] if isinstance(node, (ast.FunctionDef, ast.ClassDef)) else []
+                names += [node.arg] if isinstance(node, ast.arg) else []
+                names += [node.id] if isinstance(node, ast.Name) and isinstance(node.ctx, ast.Store) else []
+                for name in names:
+                    self.assertFalse(hasattr(builtins, name) and not name.startswith("__"), (path, name))
+                    self.assertNotIn(name, imported, path)
+
+    def test_builtins(self):
+        for path, tree in TREES.items():
+            for node in ast.walk(tree):
+                if isinstance(node, ast.Name) and hasattr(builtins, node.id):
+                    self.assertIn(node.id, BUILTINS, path)
+
+    def test_imports(self):
+        for path, tree in TREES.items():
+            for node in ast.walk(tree):
+                self.assertNotIsInstance(node, STATEMENTS, path)
+                if isinstance(node, ast.ImportFrom):
+                    self.assertIn(node, tree.body, path)
+                    self.assertTrue(node.module.startswith("lookscan."), path)
+                    self.assertEqual(node.level, 0)
+                    self.assertNotIn("*", [alias.name for alias in node.names])
+
+    def test_module_level(self):
+        allowed = (ast.ImportFrom, ast.FunctionDef, ast.ClassDef, ast.Assign)
+        for path, tree in TREES.items():
+            self.assertIsNotNone(ast.get_docstring(tree), path)
+            for node in tree.body[1:]:
+                self.assertIsInstance(node, allowed, path)
+
+    def test_values(self):
+        barred = (ast.Div, ast.Set, ast.GeneratorExp)
+        for path, tree in TREES.items():
+            for node in ast.walk(tree):
+                self.assertNotIsInstance(node, barred, (path, getattr(node, "lineno", None)))
+                if isinstance(node, ast.Constant):
+                    self.assertNotIsInstance(node.value, float, path)
+                    self.assertNotIn("%", node.value if isinstance(node.value, str) else "", path)
+
+    def test_no_name_is_a_method_and_an_attribute(self):
+        methods, attributes = [], []
+        for tree in TREES.values():
+            for node in ast.walk(tree):
+                if isinstance(node, ast.ClassDef):
+                    methods += [inner.name for inner in node.body if isinstance(inner, ast.FunctionDef)
+                                and not inner.decorator_list]
+                if isinstance(node, ast.Attribute) and isinstance(node.ctx, ast.Store):
+                    attributes.append(node.attr)
+        self.assertEqual(set(methods) & set(attributes), set())
+
+
+if __name__ == "__main__":
+    unittest.main()
