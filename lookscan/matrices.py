@@ -49,16 +49,16 @@ def is_matrix(value, directions):
     return determinant(value) in (1, -1)
 
 
-def product_divisors(divisors, matrix):
-    """Return the least divisors by which the rests of a place tell the class of its product.
+def rest_divisors(rows, divisors, directions):
+    """Return the least divisors by which the rests of a place tell the rest of each row's sum of products.
 
-    A step of a direction's new divisor must change each number of the product by a multiple of
-    the divisor there; the steps of the directions are independent of one another.
+    A row's rest is by the divisor at the same index. A step of a direction's new divisor must
+    change each sum by a multiple of its divisor; the directions are independent of one another.
     """
     found = []
-    for at in range(len(divisors)):
+    for at in range(directions):
         step = 1
-        for divisor, number in zip(divisors, column(matrix, at)):
+        for divisor, number in zip(divisors, column(rows, at)):
             step = least_multiple(step, divisor // greatest_divisor(divisor, number))
         found.append(step)
     return tuple(found)

@@ -59,6 +59,13 @@ def are_multiples(divisors, others):
     return all([divisor % other == 0 for divisor, other in zip(divisors, others)])
 
 
+def check_multiples(divisors, others):
+    """Raise the errors for a value that is not divisors, or not multiples of others."""
+    check_divisors(divisors)
+    if not are_multiples(divisors, others):
+        raise InvalidDivisors()
+
+
 def place_at(sides, number):
     """Return the place that so many cells of a box with these sides precede."""
     backwards = []

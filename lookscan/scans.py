@@ -1,10 +1,9 @@
 """Scans: orders of all places of a grid, and scans made of them."""
 
 from lookscan.arithmetic import negated
-from lookscan.errors import InvalidDivisors, InvalidMatrix, InvalidPlace, Unlike
-from lookscan.matrices import identity, is_matrix, product_divisors
-from lookscan.places import are_multiples, cells, class_count, common_divisors
-from lookscan.places import check_box, check_divisors, check_place
+from lookscan.errors import InvalidMatrix, InvalidPlace, Unlike
+from lookscan.matrices import identity, is_matrix, rest_divisors
+from lookscan.places import cells, check_box, check_multiples, check_place, class_count, common_divisors
 from lookscan.trees import PLACES, count_nodes, key_chain, moved_tree, source_classes, tree_path, turned_tree
 
 
@@ -78,9 +77,7 @@ class Scan:
 
     def refined(self, divisors):
         """Return the scan with the same order and with multiples of the divisors."""
-        check_divisors(divisors)
-        if not are_multiples(divisors, self.own_divisors):
-            raise InvalidDivisors()
+        check_multiples(divisors, self.own_divisors)
         return Scan(divisors, self.refined_tree(divisors, PLACES))
 
     def refined_tree(self, divisors, ends):
@@ -96,7 +93,7 @@ class Scan:
     def turned(self):
         """Return the opposite scan."""
         rows = [negated(row) for row in identity(len(self.own_divisors))]
-        ends = key_chain(rows, self.class_total)
+        ends = key_chain(rows, self.class_total, PLACES)
         return Scan(self.own_divisors, turned_tree(self.own_tree, ends))
 
     def shifted(self, place):
@@ -110,8 +107,8 @@ class Scan:
         directions = len(self.own_divisors)
         if not is_matrix(matrix, directions):
             raise InvalidMatrix()
-        divisors = product_divisors(self.own_divisors, matrix)
-        ends = key_chain(matrix, class_count(divisors))
+        divisors = rest_divisors(matrix, self.own_divisors, directions)
+        ends = key_chain(matrix, class_count(divisors), PLACES)
         return Scan(divisors, self.changed_tree(divisors, matrix, (0,) * directions, ends))
 
     def then(self, other):

@@ -93,9 +93,9 @@ def tree_path(tree, divisors, place):
     return tuple(path)
 
 
-def key_chain(rows, classes):
-    """Return a tree that compares by each row, the first one first, at any class."""
-    chain = PLACES
+def key_chain(rows, classes, ends):
+    """Return a tree that compares by each row, the first one first, at any class, and then by ends."""
+    chain = ends
     for row in rows[::-1]:
         chain = ("key", row, (0,) * classes, chain)
     return chain

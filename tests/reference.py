@@ -1,15 +1,22 @@
 """Slow and plain versions of what DOC.md says, and inputs for the tests."""
 
+import functools
 import itertools
+import math
 import random
 
 PLACES = ("places",)
 HUGE = 10 ** 29 + 7
 
 
+@functools.lru_cache(maxsize=None)
+def rests_in_order(divisors):
+    return sorted(itertools.product(*[range(divisor) for divisor in divisors]))
+
+
 def classes_in_order(divisors):
     """All rests, ascending: the class with a number is the item at this index."""
-    return sorted(itertools.product(*[range(divisor) for divisor in divisors]))
+    return list(rests_in_order(divisors))
 
 
 def class_number(divisors, place):
@@ -56,6 +63,15 @@ def product(matrix, place):
 
 def count_classes(divisors):
     return len(classes_in_order(divisors))
+
+
+def common(one, other):
+    """The common divisors of [11]."""
+    return tuple(math.lcm(a, b) for a, b in zip(one, other))
+
+
+def minus(place):
+    return tuple(-number for number in place)
 
 
 def keys(count, divisors=(1,)):
@@ -156,3 +172,94 @@ def random_matrix(source, directions):
 
 
 NOT_TUPLES = [None, True, False, 0, 1, -5, "", "places", "key"]
+
+
+def all_divisors(most=12):
+    """All divisors with 1 to 3 directions and at most so many classes."""
+    found = []
+    for directions in (1, 2, 3):
+        for divisors in itertools.product(range(1, most + 1), repeat=directions):
+            if math.prod(divisors) <= most:
+                found.append(divisors)
+    return found
+
+
+def random_scan(scan_class, source, divisors, depth=3):
+    """A scan with a drawn tree of not too many nodes."""
+    while True:
+        tree = random_tree(source, divisors, depth)
+        if count_nodes(tree) <= 200:
+            return scan_class(divisors, tree)
+
+
+def count_nodes(tree):
+    if tree[0] == "places":
+        return 1
+    if tree[0] == "key":
+        return 1 + count_nodes(tree[3])
+    return 1 + sum(count_nodes(inner) for classes, inner in tree[1])
+
+
+def random_looks(source, directions, count, reach=9):
+    """So many different looks."""
+    found = []
+    while len(found) < count:
+        look = random_places(source, directions, reach)
+        if any(look) and look not in found:
+            found.append(look)
+    return found
+
+
+def random_words(source, divisors, looks):
+    return ["".join(source.choice("fu") for _ in looks) for _ in classes_in_order(divisors)]
+
+
+def seen_words(scan, looks):
+    """The words of the table of a scan, as [8] and [9] say it."""
+    found = []
+    for rests in classes_in_order(scan.divisors):
+        found.append("".join("f" if before(scan, plus(rests, look), rests) else "u" for look in looks))
+    return found
+
+
+def arc(table, number, look):
+    """The classes from and to which the arc of a class and a look leads, and its step, as [12] says it."""
+    word = table.words()[number]
+    rests = classes_in_order(table.divisors)[number]
+    neighbour = class_number(table.divisors, plus(rests, look))
+    if word[table.looks().index(look)] == "f":
+        return neighbour, number, minus(look)
+    return number, neighbour, look
+
+
+def ring_fault(table, ring):
+    """None for a ring of the table, otherwise the point of [12] that does not hold."""
+    if not isinstance(ring, list) or not ring:
+        return "a list of one or more"
+    pairs = [(number, look) for number, look, count in ring]
+    if pairs != sorted(set(pairs)):
+        return "ascending, each pair at most once"
+    if not all(type(item) is tuple and type(item[2]) is int and item[2] >= 1 for item in ring):
+        return "tuples with counts from 1 on"
+    balance = {}
+    total = (0,) * len(table.divisors)
+    touching = {}
+    for number, look, count in ring:
+        source, target, step = arc(table, number, look)
+        balance[source] = balance.get(source, 0) - count
+        balance[target] = balance.get(target, 0) + count
+        total = plus(total, tuple(count * part for part in step))
+        touching.setdefault(source, set()).add(target)
+        touching.setdefault(target, set()).add(source)
+    if any(balance.values()):
+        return "as many to each class as from it"
+    if any(total):
+        return "the sum of the steps"
+    return None if hang_together(touching) else "hang together"
+
+
+def hang_together(touching):
+    reached = [min(touching)]
+    for number in reached:
+        reached.extend(sorted(touching[number] - set(reached)))
+    return set(reached) == set(touching)

@@ -2,8 +2,12 @@
 
 import unittest
 
+from lookscan.alike import alike_in, parting, unlike, unlike_boxes
 from lookscan.errors import InvalidTree
+from lookscan.makers import blocks_scan, keys_scan, rows_scan, snake_scan
 from lookscan.scans import Scan
+from lookscan.solving import solve
+from lookscan.tables import Table
 from tests.checks import ScanCase
 
 
@@ -22,6 +26,37 @@ class ExamplesTest(ScanCase):
 
     def test_a_fork_without_a_class(self):
         self.assert_error(InvalidTree, Scan, (2,), ('fork', (((1,), ('places',)),)))
+
+    def test_snake(self):
+        self.assertEqual(snake_scan(2).order((2, 3)), [(0, 0), (0, 1), (0, 2), (1, 2), (1, 1), (1, 0)])
+
+    def test_blocks(self):
+        self.assertEqual(
+            blocks_scan((2, 2)).order((2, 4)),
+            [(0, 0), (0, 1), (1, 0), (1, 1), (0, 2), (0, 3), (1, 2), (1, 3)],
+        )
+
+    def test_floor_keys(self):
+        self.assertEqual(keys_scan(1, ((-1,), 0, 2)).order((5,)), [(3,), (4,), (1,), (2,), (0,)])
+
+    def test_table(self):
+        self.assertEqual(Table.of(snake_scan(2), [(0, 1), (-1, 0)]).words(), ['uf', 'ff'])
+
+    def test_unlike(self):
+        self.assertEqual(
+            [unlike(rows_scan(2), snake_scan(2), [(0, 1)]), unlike_boxes(rows_scan(2), snake_scan(2), [(0, 1)])],
+            [[((1, 0), (0, 1))], [(2, 2)]],
+        )
+
+    def test_boxes(self):
+        self.assertEqual(
+            [alike_in(rows_scan(2), snake_scan(2), [(0, 1)], (1, 10 ** 20)),
+             parting(rows_scan(2), snake_scan(2), [(0, 1)], (3, 2))],
+            [True, ((1, 0), (1, 1))],
+        )
+
+    def test_solve(self):
+        self.assertEqual(solve(Table((1,), [(1,), (-1,)], ['ff']))[0], 'ring')
 
 
 if __name__ == "__main__":
