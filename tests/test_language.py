@@ -18,6 +18,10 @@ BARRED = """register mro elements open input law version_info with_traceback add
     methodcaller os quit setattr type vars sys format format_map""".split()
 BARRED_WORDS = """type typing typing_extensions enum Enum IntEnum StrEnum Flag IntFlag Generic Protocol ABC ABCMeta
     namedtuple NamedTuple TypedDict TYPE_CHECKING abstractmethod""".split()
+METHODS = """append clear copy count endswith extend find get index insert isalnum isalpha isdigit islower isspace isupper
+    items join keys ljust lower lstrip partition pop remove replace reverse rfind rjust rpartition rsplit rstrip
+    setdefault split splitlines startswith strip update upper values zfill bit_length add discard""".split()
+LAZY = ["zip", "enumerate", "reversed", "range"]
 STATEMENTS = (ast.Global, ast.AsyncFunctionDef, ast.AsyncFor, ast.AsyncWith, ast.Await, ast.Import)
 
 
@@ -120,6 +124,62 @@ class LanguageTest(unittest.TestCase):
                 if isinstance(node, ast.Attribute) and isinstance(node.ctx, ast.Store):
                     attributes.append(node.attr)
         self.assertEqual(set(methods) & set(attributes), set())
+
+    def test_is(self):
+        for path, tree in TREES.items():
+            for node in ast.walk(tree):
+                if isinstance(node, ast.Compare):
+                    for sign, right in zip(node.ops, node.comparators):
+                        if isinstance(sign, (ast.Is, ast.IsNot)):
+                            self.assertIsInstance(right, ast.Constant, (path, node.lineno))
+                            self.assertIn(right.value, (None, True, False), (path, node.lineno))
+
+    def test_iterated_at_once(self):
+        for path, tree in TREES.items():
+            for node in ast.walk(tree):
+                if isinstance(node, (ast.Assign, ast.Return)) and isinstance(node.value, ast.Call):
+                    called = node.value.func
+                    self.assertNotIn(getattr(called, "id", ""), LAZY, (path, node.lineno))
+                    self.assertNotIn(getattr(called, "attr", ""), ["items", "keys", "values"], (path, node.lineno))
+
+    def test_methods_and_attributes(self):
+        classes = [node for tree in TREES.values() for node in ast.walk(tree) if isinstance(node, ast.ClassDef)]
+        own = [inner.name for node in classes for inner in node.body if isinstance(inner, ast.FunctionDef)]
+        own += [target.id for node in classes for inner in node.body if isinstance(inner, ast.Assign)
+                for target in inner.targets]
+        stored = [node.attr for tree in TREES.values() for node in ast.walk(tree)
+                  if isinstance(node, ast.Attribute) and isinstance(node.ctx, ast.Store)]
+        for path, tree in TREES.items():
+            calls = [node.func for node in ast.walk(tree) if isinstance(node, ast.Call)]
+            for node in ast.walk(tree):
+                if isinstance(node, ast.Attribute) and isinstance(node.ctx, ast.Load):
+                    known = own + METHODS if node in calls else own + stored
+                    self.assertIn(node.attr, known, (path, node.lineno))
+
+    def test_imports_are_used_and_lead_to_no_circle(self):
+        leads = {path.stem: {node.module.split(".")[1] for node in tree.body if isinstance(node, ast.ImportFrom)}
+                 for path, tree in TREES.items()}
+        while leads:
+            free = [name for name in leads if not leads[name] & set(leads)]
+            self.assertNotEqual(free, [], leads)
+            for name in free:
+                del leads[name]
+        for path, tree in TREES.items():
+            used = [node.id for node in ast.walk(tree) if isinstance(node, ast.Name)]
+            for node in tree.body:
+                if isinstance(node, ast.ImportFrom):
+                    source = TREES[PACKAGE / (node.module.split(".")[1] + ".py")]
+                    defined = [inner.name for inner in source.body if isinstance(inner, (ast.FunctionDef, ast.ClassDef))]
+                    defined += [inner.targets[0].id for inner in source.body if isinstance(inner, ast.Assign)]
+                    for alias in node.names:
+                        self.assertIn(alias.name, used, path)
+                        self.assertIn(alias.name, defined, path)
+
+    def test_a_generator_shares_its_name_with_nothing(self):
+        functions = [node for tree in TREES.values() for node in ast.walk(tree) if isinstance(node, ast.FunctionDef)]
+        for node in functions:
+            if any(isinstance(inner, (ast.Yield, ast.YieldFrom)) for inner in ast.walk(node)):
+                self.assertEqual([other.name for other in functions].count(node.name), 1)
 
 
 if __name__ == "__main__":

@@ -115,7 +115,7 @@ class TableErrorsTest(ScanCase):
 
     def test_words(self):
         looks = [(1,), (2,)]
-        for word in ["", "f", "fuf", "fx", "Fu", "f ", " f", "ff\n", "u-", "01"]:
+        for word in ["", "f", "fuf", "fx", "Fu", "f ", " f", "ff\n", "u-", "01", ("f", "u"), None]:
             self.assert_error(InvalidWords, Table, (3,), looks, [word, "ff", "ff"], index=0)
             self.assert_error(InvalidWords, Table, (3,), looks, ["uu", word, ""], index=1)
             self.assert_error(InvalidWords, Table, (3,), looks, ["ff", "fu", word, "ff"], index=2)
