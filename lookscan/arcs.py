@@ -33,6 +33,12 @@ def table_arcs(table):
     return found
 
 
+def arc_column(arc, classes):
+    """Return the step of an arc, and what it does to each class: it leaves one and reaches one."""
+    changes = [int(number == arc.target) - int(number == arc.source) for number in classes]
+    return arc.stride + tuple(changes)
+
+
 def touched_classes(arcs):
     """Return the ascending list of the classes from or to which an arc leads."""
     return sorted({number for arc in arcs for number in (arc.source, arc.target)})

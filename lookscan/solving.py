@@ -1,6 +1,6 @@
 """A scan for a table, or a ring that shows that it has none."""
 
-from lookscan.arcs import hanging_groups, table_arcs, touched_classes
+from lookscan.arcs import arc_column, hanging_groups, table_arcs, touched_classes
 from lookscan.arithmetic import added, dot
 from lookscan.balances import balance, shortened
 from lookscan.errors import Unlike
@@ -8,12 +8,6 @@ from lookscan.looks import words_by
 from lookscan.places import common_divisors
 from lookscan.scans import Scan
 from lookscan.trees import PLACES
-
-
-def arc_column(arc, classes):
-    """Return the step of an arc, and what it does to each class: it leaves one and reaches one."""
-    changes = [int(number == arc.target) - int(number == arc.source) for number in classes]
-    return arc.stride + tuple(changes)
 
 
 def key_and_counts(arcs, classes):

@@ -263,3 +263,63 @@ def hang_together(touching):
     for number in reached:
         reached.extend(sorted(touching[number] - set(reached)))
     return set(reached) == set(touching)
+
+
+def arc_steps(table, ring):
+    """How often a walk must go along each (class from, step), by the counts of a ring."""
+    found = {}
+    for number, look, count in ring:
+        source, target, step = arc(table, number, look)
+        found[source, step] = found.get((source, step), 0) + count
+    return found
+
+
+def cells_of(box):
+    return sorted(itertools.product(*[range(side) for side in box]))
+
+
+def random_box(source, directions, most=60):
+    """A box with at most so many cells, now and then without any."""
+    while True:
+        box = tuple(source.randint(0, most // directions) for _ in range(directions))
+        if math.prod(box) <= most and (math.prod(box) > 0 or source.random() < 0.05):
+            return box
+
+
+def random_rule(source, looks):
+    modulus = source.choice([2, 3, 7, 10, 1000, 999983, 1000000])
+    reach = source.choice([2, 20, HUGE])
+    weights = tuple(source.randint(-reach, reach) for _ in looks)
+    return (modulus, source.randint(-reach, reach), weights, source.randint(-reach, reach),
+            source.randint(-reach, reach))
+
+
+def random_values(source, rule, box):
+    return [source.randrange(rule[0]) for _ in cells_of(box)]
+
+
+def new_value(looks, rule, standing, cell):
+    """What a cell gets, as [15] says it; standing has what stands at each cell now."""
+    modulus, own, weights, constant, edge = rule
+    total = own * standing[cell] + constant
+    for look, weight in zip(looks, weights):
+        total += weight * standing.get(plus(cell, look), edge)
+    return total % modulus
+
+
+def plain_fill(scan, looks, box, rule, begun):
+    """Filling cell by cell: each time the cell that comes before all others that are left."""
+    left = cells_of(box)
+    standing = dict(zip(left, begun))
+    key = functools.cmp_to_key(lambda one, other: compare(scan.divisors, scan.tree, one, other)[0])
+    for cell in sorted(left, key=key):
+        standing[cell] = new_value(looks, rule, standing, cell)
+    return [standing[cell] for cell in left]
+
+
+def all_forms(scan_class, source, count, most=12):
+    """Drawn scans with all divisors, one after another."""
+    every = all_divisors(most)
+    source.shuffle(every)
+    for at in range(count):
+        yield random_scan(scan_class, source, every[at % len(every)], source.choice([1, 2, 3]))

@@ -4,10 +4,13 @@ import unittest
 
 from lookscan.alike import alike_in, parting, unlike, unlike_boxes
 from lookscan.errors import InvalidTree
+from lookscan.fills import fill
 from lookscan.makers import blocks_scan, keys_scan, rows_scan, snake_scan
+from lookscan.rings import is_ring, ring_box
 from lookscan.scans import Scan
 from lookscan.solving import solve
 from lookscan.tables import Table
+from lookscan.waves import waves
 from tests.checks import ScanCase
 
 
@@ -57,6 +60,19 @@ class ExamplesTest(ScanCase):
 
     def test_solve(self):
         self.assertEqual(solve(Table((1,), [(1,), (-1,)], ['ff']))[0], 'ring')
+
+    def test_ring(self):
+        table = Table((1,), [(1,), (-1,)], ['ff'])
+        self.assertEqual(
+            [is_ring(table, [(0, (-1,), 1), (0, (1,), 1)]), ring_box(table, [(0, (-1,), 1), (0, (1,), 1)])],
+            [True, (2,)],
+        )
+
+    def test_waves(self):
+        self.assertEqual(waves(Scan((1, 1)), [(-1, 0), (0, -1)], (2, 2)), [[(0, 0)], [(0, 1), (1, 0)], [(1, 1)]])
+
+    def test_fill(self):
+        self.assertEqual(fill(Scan((1,)), [(-1,)], (4,), (10, 0, (1,), 1, 0), [5, 5, 5, 5]), [1, 2, 3, 4])
 
 
 if __name__ == "__main__":

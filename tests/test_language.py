@@ -151,8 +151,10 @@ class LanguageTest(unittest.TestCase):
                   if isinstance(node, ast.Attribute) and isinstance(node.ctx, ast.Store)]
         for path, tree in TREES.items():
             calls = [node.func for node in ast.walk(tree) if isinstance(node, ast.Call)]
+            setters = [over for node in ast.walk(tree) if isinstance(node, ast.FunctionDef)
+                       for over in node.decorator_list]
             for node in ast.walk(tree):
-                if isinstance(node, ast.Attribute) and isinstance(node.ctx, ast.Load):
+                if isinstance(node, ast.Attribute) and isinstance(node.ctx, ast.Load) and node not in setters:
                     known = own + METHODS if node in calls else own + stored
                     self.assertIn(node.attr, known, (path, node.lineno))
 
