@@ -54,7 +54,7 @@ class Board:
 
     def standing(self, place):
         """Return what stands at a place: the value of a cell, or the edge."""
-        return self.worths.get(place, self.rule[4])
+        return self.worths[place] if place in self.worths else self.rule[4]
 
     def new_value(self, cell):
         """Return the value that a cell would get now."""
@@ -98,7 +98,7 @@ def views(scan, looks, box):
     """Return, for each cell, what the scan sees at each look, or `-` where the neighbour is not in the box."""
     checked = checked_looks(looks, scan.directions)
     places = checked_cells(box, scan.directions)
-    inside = {place: True for place in places}
+    inside = {cell: True for cell in places}
     words = words_by(scan, scan.divisors, checked)
     found = []
     for place in places:

@@ -3,13 +3,16 @@
 import unittest
 
 from lookscan.alike import alike_in, parting, unlike, unlike_boxes
-from lookscan.errors import InvalidTree
+from lookscan.console import Console
+from lookscan.errors import InvalidTree, ParseError, UnknownName
 from lookscan.fills import fill
 from lookscan.makers import blocks_scan, keys_scan, rows_scan, snake_scan
 from lookscan.rings import is_ring, ring_box
 from lookscan.scans import Scan
 from lookscan.solving import solve
+from lookscan.studio import Studio
 from lookscan.tables import Table
+from lookscan.tongue import parse_scan
 from lookscan.waves import waves
 from tests.checks import ScanCase
 
@@ -73,6 +76,27 @@ class ExamplesTest(ScanCase):
 
     def test_fill(self):
         self.assertEqual(fill(Scan((1,)), [(-1,)], (4,), (10, 0, (1,), 1, 0), [5, 5, 5, 5]), [1, 2, 3, 4])
+
+    def test_text(self):
+        self.assert_error(ParseError, parse_scan, '1 : place', line=0)
+
+    def test_studio(self):
+        studio = Studio()
+        studio.apply_all(('scan', 'a', (1, 1), ('places',)), ('turned', 'b', 'a'))
+        self.assertEqual(
+            [studio.names(), studio.boxes('a', 'b', [(0, 1)]), studio.alike('a', 'b', [(0, 1)], box=(5, 1)), studio.computed],
+            [['a', 'b'], [(1, 2)], True, 1],
+        )
+
+    def test_unknown_name(self):
+        self.assert_error(UnknownName, Studio().apply, ('turned', 'a', 'b'), name='b')
+
+    def test_console(self):
+        console = Console()
+        self.assertEqual(
+            [console('scan a 1 1 : places'), console('waves a : -1 0 : 3 2'), console('names a')],
+            ['ok', '3', 'invalid'],
+        )
 
 
 if __name__ == "__main__":

@@ -22,6 +22,11 @@ METHODS = """append clear copy count endswith extend find get index insert isaln
     items join keys ljust lower lstrip partition pop remove replace reverse rfind rjust rpartition rsplit rstrip
     setdefault split splitlines startswith strip update upper values zfill bit_length add discard""".split()
 LAZY = ["zip", "enumerate", "reversed", "range"]
+DUNDERS = """__init__ __eq__ __repr__ __str__ __len__ __enter__ __exit__ __call__ __iter__ __contains__""".split()
+# Of Python's own errors, those that may be caught around anything.
+CAUGHT = ["KeyError", "ZeroDivisionError", "StopIteration"]
+KEYWORDS = {"sorted": ["key", "reverse"], "min": ["key", "default"], "max": ["key", "default"], "sum": ["start"],
+            "enumerate": ["start"], "zip": ["strict"]}
 STATEMENTS = (ast.Global, ast.AsyncFunctionDef, ast.AsyncFor, ast.AsyncWith, ast.Await, ast.Import)
 
 
@@ -176,6 +181,77 @@ class LanguageTest(unittest.TestCase):
                     for alias in node.names:
                         self.assertIn(alias.name, used, path)
                         self.assertIn(alias.name, defined, path)
+
+    def nodes(self, *kinds):
+        for path, tree in TREES.items():
+            for node in ast.walk(tree):
+                if isinstance(node, kinds):
+                    yield path, node
+
+    def test_double_underscore_methods(self):
+        for path, node in self.nodes(ast.FunctionDef):
+            if node.name.startswith("__"):
+                self.assertIn(node.name, DUNDERS, path)
+        for path, node in self.nodes(ast.Attribute):
+            if node.attr.startswith("__"):
+                self.assertEqual(ast.unparse(node), "super().__init__", path)
+
+    def test_len_and_repr_end_with_a_plain_return(self):
+        for path, node in self.nodes(ast.FunctionDef):
+            if node.name in ("__len__", "__repr__"):
+                self.assertIsInstance(node.body[-1], ast.Return, path)
+            for inner in ast.walk(node):
+                if node.name == "__len__" and isinstance(inner, ast.Return):
+                    self.assertRegex(ast.unparse(inner.value), r"^len\(.*\)$", path)
+                if node.name == "__repr__" and isinstance(inner, ast.Return):
+                    self.assertIsInstance(inner.value, ast.JoinedStr, path)
+
+    def test_finally(self):
+        for path, node in self.nodes(ast.Try):
+            for inner in node.finalbody:
+                self.assertIsInstance(inner, ast.Assign, path)
+                self.assertIsInstance(inner.value, (ast.Constant, ast.Name, ast.Attribute), path)
+
+    def test_caught_errors(self):
+        own = [node.name for path, node in self.nodes(ast.ClassDef) if path.name == "errors.py"]
+        for path, node in self.nodes(ast.ExceptHandler):
+            for caught in node.type.elts if isinstance(node.type, ast.Tuple) else [node.type]:
+                self.assertIn(caught.id, own + CAUGHT, path)
+
+    def test_raised_errors(self):
+        own = [node.name for path, node in self.nodes(ast.ClassDef) if path.name == "errors.py"]
+        for path, node in self.nodes(ast.Raise):
+            self.assertIn(node.exc.func.id, own, path)
+            self.assertIn(ast.unparse(node.cause) if node.cause else "None", ["None"], path)
+
+    def test_only_class_values_are_read_off_a_class(self):
+        # Two classes share the name of a property and of an attribute, so no method is read off a class.
+        classes = [node.name for path, node in self.nodes(ast.ClassDef)]
+        for path, node in self.nodes(ast.Attribute):
+            if isinstance(node.value, ast.Name) and node.value.id in classes:
+                self.assertTrue(node.attr.isupper(), (path, node.lineno))
+
+    def test_keywords_of_builtins(self):
+        for path, node in self.nodes(ast.Call):
+            name = getattr(node.func, "id", "")
+            for keyword in node.keywords:
+                self.assertIsNotNone(keyword.arg, (path, node.lineno))
+                if hasattr(builtins, name):
+                    self.assertIn(keyword.arg, KEYWORDS.get(name, []), (path, node.lineno))
+
+    def test_defaults_and_decorators(self):
+        for path, node in self.nodes(ast.FunctionDef):
+            for default in [*node.args.defaults, *[value for value in node.args.kw_defaults if value is not None]]:
+                ast.literal_eval(default)
+            self.assertEqual(node.args.posonlyargs, [], path)
+            for over in node.decorator_list:
+                self.assertRegex(ast.unparse(over), r"^(property|classmethod|staticmethod|[a-z]+\.setter)$", path)
+
+    def test_literal_exponents(self):
+        for path, node in self.nodes(ast.BinOp):
+            if isinstance(node.op, ast.Pow):
+                self.assertIsInstance(node.right, ast.Constant, path)
+                self.assertLessEqual(node.right.value, 64, path)
 
     def test_a_generator_shares_its_name_with_nothing(self):
         functions = [node for tree in TREES.values() for node in ast.walk(tree) if isinstance(node, ast.FunctionDef)]

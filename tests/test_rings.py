@@ -90,6 +90,12 @@ class IsRingTest(unittest.TestCase):
         table = Table((2,), [(1,), (-1,)], ["uu", "fu"])
         self.assertIs(is_ring(table, [(0, (-1,), 1), (0, (1,), 1)]), False)
 
+    def test_items_of_other_forms(self):
+        for wrong in [None, 5, "abc", (), (0,), (0, (2,)), (0, (2,), 3, 1), (0, 2, 3), (0, None, 3), ("0", (2,), 3),
+                      (0, (2,), None), (None, (2,), 3)]:
+            self.assertIs(is_ring(STEPS, [wrong]), False)
+            self.assertIs(is_ring(STEPS, [STEPS_RING[0], wrong]), False)
+
     def test_true_is_no_number(self):
         table = Table((2,), [(1,), (-1,)], ["ff", "ff"])
         ring = [(0, (-1,), 1), (1, (1,), 1)]
